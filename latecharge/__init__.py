@@ -1,0 +1,1 @@
+"""Latecharge: one card, many purses, and who pays for what is decided last."""

@@ -1,0 +1,46 @@
+"""Books, values and a test case that the tests share."""
+
+import unittest
+
+PURSES = (
+    ('gift', 'aunt', ('food', 'toy'), 0, 9),
+    ('meal', 'firm', ('food',), 0, 4),
+    ('trip', 'firm', ('train',), 0, 9),
+)
+LIMITS = ((('gift',), 0, 9, 10), (('meal', 'trip'), 0, 9, 15), (('meal',), 0, 0, 5))
+ROWS = (('buy', 0, 'food', 8), ('buy', 1, 'train', 9))
+BOOK = (PURSES, LIMITS, ROWS)
+MORE = (PURSES, LIMITS, ROWS + (('buy', 3, 'toy', 8),))
+# The food is paid: three by the gift, five by the meals.
+HALF = (PURSES, LIMITS, (('paid', 0, 'food', (3, 5, 0)), ('buy', 1, 'train', 9)))
+PLAIN = (PURSES, (), ())
+
+SIXTY = int('9' * 60)
+FAR = 10 ** 59
+
+# Values that are no number, no name and no tuple of something.
+ODD = (None, True, False, -1, -SIXTY, '', 'Meal', 'a b', 'lettersss', '0', [], [0], ['meal'], (), (0,), ('meal',),
+       (('meal', 0),), [('meal', 0)], ((), ()))
+
+
+def kept(value):
+    """A copy of a value, lists copied too, to see whether a call changes it."""
+    if isinstance(value, (list, tuple)):
+        return value.__class__([kept(part) for part in value])
+    return value
+
+
+class Case(unittest.TestCase):
+    """A test case that tells True from 1, and tuples from lists."""
+
+    def same(self, result, expected):
+        self.assertEqual(repr(result), repr(expected))
+
+    def refused(self, error, fields, call, *args, **named):
+        """The call raises just this error, with these values in its fields, in order, and changes no argument."""
+        before = kept([*args, *named.values()])
+        with self.assertRaises(error) as caught:
+            call(*args, **named)
+        self.assertIs(caught.exception.__class__, error)
+        self.same(list(vars(caught.exception).values()), list(fields))
+        self.same([*args, *named.values()], before)
