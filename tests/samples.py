@@ -1,5 +1,6 @@
 """Books, values and a test case that the tests share."""
 
+import itertools
 import unittest
 
 PURSES = (
@@ -28,6 +29,18 @@ def kept(value):
     if isinstance(value, (list, tuple)):
         return value.__class__([kept(part) for part in value])
     return value
+
+
+def splits(amount, many):
+    """All tuples of so many numbers with this sum."""
+    if many == 0:
+        return [()] if amount == 0 else []
+    return [(share,) + rest for share in range(amount + 1) for rest in splits(amount - share, many - 1)]
+
+
+def subsets(things):
+    """All subsets of things, as tuples."""
+    return [subset for many in range(len(things) + 1) for subset in itertools.combinations(things, many)]
 
 
 class Case(unittest.TestCase):

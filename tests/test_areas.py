@@ -83,6 +83,11 @@ class TestArea(Case):
                     self.same(made.slots, tuple(sorted(slots)))
                 self.same([left.slots, right.slots], [one, other])
 
+    def test_operators_take_areas(self):
+        for value in ((), SLOTS, [], None, 1):
+            for call in (Area.__and__, Area.__or__, Area.__sub__):
+                self.assertIs(call(Area(SLOTS), value), NotImplemented)
+
     def test_within_and_apart(self):
         for one in SUBSETS:
             for other in SUBSETS:

@@ -3,28 +3,8 @@
 import unittest
 
 from latecharge.eventtexts import event_line, log_lines
-from tests.samples import LIMITS, PURSES, SIXTY, Case, kept
-
-NINES = '9' * 60
-LINES = (
-    (('buy', 0, 'food', 8), 'buy 0 food 8'),
-    (('buy', SIXTY, 'buy', 0), f'buy {NINES} buy 0'),
-    (('back', 0, 1), 'back 0 1'),
-    (('back', 12, SIXTY), f'back 12 {NINES}'),
-    (('pay', 0, (3, 5, 0)), 'pay 0 3,5,0'),
-    (('pay', 1, ()), 'pay 1 -'),
-    (('pay', 1, (7,)), 'pay 1 7'),
-    (('purse', ('home', 'firm', ('food', 'rent'), 0, 3)), 'purse home firm 0 3 food,rent'),
-    (('limit', (('meal', 'trip'), 0, 9, 15)), 'limit meal,trip 0 9 15'),
-    (('cap', 2, 0), 'cap 2 0'),
-    (('cap', SIXTY, SIXTY), f'cap {NINES} {NINES}'),
-    (('close', ()), 'close'),
-    (('close', ((),)), 'close -'),
-    (('close', ((3, 5, 0),)), 'close 3,5,0'),
-    (('close', ((3, 5), (), (0,))), 'close 3,5 - 0'),
-)
-CARD = ['card 6', 'purse gift aunt 0 9 food,toy', 'purse meal firm 0 4 food', 'purse trip firm 0 9 train',
-        'limit gift 0 9 10', 'limit meal,trip 0 9 15', 'limit meal 0 0 5']
+from tests.lines import CARD, LINES
+from tests.samples import LIMITS, PURSES, Case, kept
 
 
 class TestLines(Case):
