@@ -15,6 +15,14 @@ MORE = (PURSES, LIMITS, ROWS + (('buy', 3, 'toy', 8),))
 # The food is paid: three by the gift, five by the meals.
 HALF = (PURSES, LIMITS, (('paid', 0, 'food', (3, 5, 0)), ('buy', 1, 'train', 9)))
 PLAIN = (PURSES, (), ())
+MORE = (PURSES, LIMITS, ROWS + (('buy', 3, 'toy', 8),))
+# As great as books are asked for: six purses, eight limits, ten rows with amounts of thirty.
+WIDE = (
+    tuple((name, sponsor, ('any',), 0, 9) for name, sponsor in zip('abcdef', 'xxyyzz')),
+    ((('a', 'b'), 0, 9, 120), (('a',), 0, 4, 40), (('a',), 0, 1, 20), (('c', 'd'), 0, 9, 110), (('d',), 0, 9, 60),
+     (('e', 'f'), 0, 9, 100), (('e',), 2, 3, 10), (('e', 'f'), 5, 9, 80)),
+    tuple(('buy', day, 'any', 30) for day in range(10)),
+)
 
 SIXTY = int('9' * 60)
 FAR = 10 ** 59

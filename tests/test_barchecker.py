@@ -8,9 +8,8 @@ from latecharge.bookchanges import with_cap, with_row
 from latecharge.bookparts import amount_of, area_of, left_of, open_rows, payers
 from latecharge.chargings import is_good
 from latecharge.errors import InvalidPaper
-from tests.samples import BOOK, HALF, LIMITS, ODD, PLAIN, PURSES, ROWS, SIXTY, Case, splits, subsets
+from tests.samples import BOOK, HALF, LIMITS, MORE, ODD, PLAIN, PURSES, ROWS, SIXTY, Case, splits, subsets
 
-MORE = (PURSES, LIMITS, ROWS + (('buy', 3, 'toy', 8),))
 BAR = ((0, 2), (0, 2))
 SMALL = (PURSES, ((('gift',), 0, 9, 2), (('meal', 'trip'), 0, 9, 2), (('meal',), 0, 0, 1)),
          (('buy', 0, 'food', 2), ('paid', 1, 'train', (0, 0, 1)), ('buy', 4, 'food', 1), ('buy', 3, 'toy', 1)))
