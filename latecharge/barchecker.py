@@ -1,6 +1,6 @@
 """The checker of bars."""
 
-from latecharge.bookparts import amount_of, can_pay, left_of, open_rows
+from latecharge.bookparts import amount_of, can_pay, left_of, open_rows, sponsors_of
 from latecharge.errors import InvalidPaper
 from latecharge.kinds import is_index, is_integer
 from latecharge.limitareas import has_slot, is_inside
@@ -28,28 +28,33 @@ def check_limit_apart(book, limits, n):
             raise InvalidPaper("within", (m, n))
 
 
+def check_limit_known(book, limits, n):
+    """Raises InvalidPaper if element n is not the index of a limit, or not greater than the one before."""
+    if not is_index(limits[n], len(book[1])) or (n > 0 and limits[n] <= limits[n - 1]):
+        raise InvalidPaper("limit", n)
+
+
 def check_limits_apart(book, limits):
     """Raises InvalidPaper if integers are no set of indexes of limits, or if one of them is within another one."""
-    for n, k in enumerate(limits):
-        if not is_index(k, len(book[1])) or (n > 0 and k <= limits[n - 1]):
-            raise InvalidPaper("limit", n)
+    for n in range(len(limits)):
+        check_limit_known(book, limits, n)
         check_limit_apart(book, limits, n)
 
 
-def first_outside(book, day, kind, limits):
-    """The place of the first purse that may pay for this kind on this day outside of these limits, or None."""
+def first_outside(book, day, kind, limits, sponsors):
+    """The place of the first purse of sponsors that may pay for a kind on a day outside of these limits, or None."""
     for j, purse in enumerate(book[0]):
         inside = any([has_slot(book[1][k], purse[0], day) for k in limits])
-        if can_pay(purse, day, kind) and not inside:
+        if purse[1] in sponsors and can_pay(purse, day, kind) and not inside:
             return j
     return None
 
 
-def check_slots(book, some, limits):
-    """Raises InvalidPaper if a slot that may pay for one of some rows is outside of these limits."""
+def check_slots(book, some, limits, sponsors):
+    """Raises InvalidPaper if a slot of sponsors that may pay for one of some rows is outside of these limits."""
     for t in some:
         row = book[2][t]
-        j = first_outside(book, row[1], row[2], limits)
+        j = first_outside(book, row[1], row[2], limits, sponsors)
         if j is not None:
             raise InvalidPaper("slot", (t, j))
 
@@ -61,7 +66,7 @@ def lets_bar(book, thing):
     some, limits = thing
     check_some(book, some)
     check_limits_apart(book, limits)
-    check_slots(book, some, limits)
+    check_slots(book, some, limits, sponsors_of(book))
     lack = sum([amount_of(book, t) for t in some]) - sum([left_of(book, k) for k in limits])
     if lack <= 0:
         raise InvalidPaper("lack", -1)

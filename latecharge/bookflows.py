@@ -1,6 +1,6 @@
 """Books as networks: units go from open rows into limits, from these into the limits around them, then to sponsors."""
 
-from latecharge.bookparts import can_pay, left_of, limits_over, open_rows, sponsors_of
+from latecharge.bookparts import can_pay, left_of, limits_over, open_rows, sponsor_of, sponsors_of
 from latecharge.limitareas import is_inside, slots_in
 from latecharge.networks import Network
 
@@ -64,8 +64,7 @@ class BookFlow:
         """The node of the first of some limits, or of the sponsor of a purse if there is none."""
         if len(around) > 0:
             return self.limit_node(around[0])
-        sponsor = [purse[1] for purse in self.purses if purse[0] == name][0]
-        return self.gate_node(self.sponsors.index(sponsor))
+        return self.gate_node(self.sponsors.index(sponsor_of(self.purses, name)))
 
     def node_around(self, k):
         """The node behind limit k."""

@@ -10,6 +10,11 @@ def names_of(purses):
     return tuple([purse[0] for purse in purses])
 
 
+def sponsor_of(purses, name):
+    """The sponsor of the purse with this name."""
+    return [purse[1] for purse in purses if purse[0] == name][0]
+
+
 def can_pay(purse, day, kind):
     """Whether a purse, given as its tuple, pays for this kind on this day."""
     return kind in purse[2] and purse[3] <= day <= purse[4]
@@ -24,6 +29,14 @@ def check_purse(book, purse):
     """Raises UnknownPurse for a value that is no name of a purse of the book."""
     if purse not in names_of(book[0]):
         raise UnknownPurse(purse)
+
+
+def check_sponsors(book, sponsors):
+    """Raises UnknownSponsor for the first value that is no sponsor of the book."""
+    known = sponsors_of(book)
+    for sponsor in sponsors:
+        if sponsor not in known:
+            raise UnknownSponsor(sponsor)
 
 
 def check_limit(book, k):
@@ -51,8 +64,7 @@ def sponsors_of(book):
 
 def purses_of(book, sponsor):
     """The set of the names of the purses of a sponsor."""
-    if sponsor not in sponsors_of(book):
-        raise UnknownSponsor(sponsor)
+    check_sponsors(book, (sponsor,))
     return names_of([purse for purse in book[0] if purse[1] == sponsor])
 
 

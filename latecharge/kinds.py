@@ -50,6 +50,16 @@ def is_slot(thing):
     return is_name(purse) and is_number(day)
 
 
+def is_wish(thing):
+    """Whether a value is a pair of a day and a kind."""
+    return isinstance(thing, tuple) and len(thing) == 2 and is_number(thing[0]) and is_name(thing[1])
+
+
+def is_buy(thing):
+    """Whether a value is a wish with an amount behind it."""
+    return isinstance(thing, tuple) and len(thing) == 3 and is_wish(thing[:2]) and is_number(thing[2])
+
+
 def is_purse(thing):
     """Whether a value is a tuple (purse, sponsor, kinds, first, last) by form."""
     if not isinstance(thing, tuple) or len(thing) != 5:

@@ -2,18 +2,10 @@
 
 from latecharge.bars import check_fits
 from latecharge.bookflows import flow_in_turn
-from latecharge.bookparts import amount_of, paid_by, sponsors_of
+from latecharge.bookparts import amount_of, check_sponsors, paid_by, sponsors_of
 from latecharge.chargings import lets_charging, paid_from
-from latecharge.errors import NotUsable, UnknownSponsor
+from latecharge.errors import NotUsable
 from latecharge.kinds import is_number, is_numbers
-
-
-def check_sponsors(book, sponsors):
-    """Raises UnknownSponsor for the first value that is no sponsor of the book."""
-    known = sponsors_of(book)
-    for sponsor in sponsors:
-        if sponsor not in known:
-            raise UnknownSponsor(sponsor)
 
 
 def check_parts(book, parts):
