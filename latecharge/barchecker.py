@@ -71,3 +71,12 @@ def lets_bar(book, thing):
     if lack <= 0:
         raise InvalidPaper("lack", -1)
     return lack
+
+
+def is_bar(book, thing):
+    """Whether a value is a bar."""
+    try:
+        lets_bar(book, thing)
+    except InvalidPaper:
+        return False
+    return True

@@ -34,6 +34,14 @@ class Network:
         self.costs[edge] = cost
         self.costs[edge ^ 1] = -cost
 
+    def kept_rooms(self):
+        """What put_rooms needs to make the flow again what it is now."""
+        return list(self.rooms)
+
+    def put_rooms(self, rooms):
+        """The flow is again what it was when these rooms were kept."""
+        self.rooms = list(rooms)
+
     def flow_on(self, edge):
         """How many units go along an edge."""
         return self.rooms[edge ^ 1]

@@ -146,3 +146,65 @@ def lessened(book):
         for t, amount in zip(places, amounts):
             rows[t] = (*rows[t][:3], amount)
         yield (book[0], book[1], tuple(rows)), sum(book[2][t][3] for t in places) - sum(amounts)
+
+
+def paid_states(book, rows, states):
+    """What can be paid in the areas of the limits behind these rows, unit by unit, from what is paid ahead of them."""
+    for _, day, kind, amount in rows:
+        for _ in range(amount):
+            states = {more for state in states for more in unit_more(book, (day, kind), state)}
+    return states
+
+
+def unit_more(book, wish, state):
+    """What is paid in the areas if a unit more is paid for a wish, for each purse that may pay for it."""
+    found = set()
+    for purse in book[0]:
+        if may_pay(purse, ('', *wish)):
+            more = tuple(paid + ((purse[0], wish[0]) in area(limit)) for paid, limit in zip(state, book[1]))
+            if all(paid <= limit[3] for paid, limit in zip(more, book[1])):
+                found.add(more)
+    return found
+
+
+def open_states(book):
+    """What can be paid in the areas of the limits in good chargings; empty if the book does not fit."""
+    ahead = tuple(limit[3] - left_of(book, limit) for limit in book[1])
+    return paid_states(book, [book[2][t] for t in open_rows(book)], {ahead})
+
+
+def are_free(book, wishes):
+    """Whether some slot that may pay for a wish is in no area."""
+    inside = set().union(*[area(limit) for limit in book[1]])
+    slots = {(purse[0], day) for day, kind in wishes for purse in book[0] if may_pay(purse, ('', day, kind))}
+    return not slots <= inside
+
+
+def room(book, wishes):
+    """The room of wishes in a book that fits, unit by unit."""
+    if are_free(book, wishes):
+        return None
+    states = open_states(book)
+    units = -1
+    while states:
+        units += 1
+        states = {more for state in states for wish in wishes for more in unit_more(book, wish, state)}
+    return units
+
+
+def first_harmed(book, after, wishes):
+    """As harm returns it, after being the book with rows that are paid."""
+    if not open_states(after):
+        return ()
+    for some in subsets(sorted(set(wishes))):
+        most = room(book, some)
+        if most is not None and room(after, some) < most:
+            return some
+    return None
+
+
+def paid_with(book, t, shares):
+    """What the book is with row t paid with these shares; None if a cap is passed."""
+    _, day, kind, _ = book[2][t]
+    after = (*book[:2], book[2][:t] + (('paid', day, kind, shares),) + book[2][t + 1:])
+    return after if accepted(after) else None
