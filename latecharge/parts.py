@@ -8,9 +8,14 @@ from latecharge.errors import NotUsable
 from latecharge.kinds import is_number, is_numbers
 
 
+def has_parts_form(book, thing):
+    """Whether a value is a tuple with a number for each sponsor."""
+    return is_numbers(thing) and len(thing) == len(sponsors_of(book))
+
+
 def check_parts(book, parts):
     """Raises NotUsable for a value that is no tuple with a number for each sponsor."""
-    if not is_numbers(parts) or len(parts) != len(sponsors_of(book)):
+    if not has_parts_form(book, parts):
         raise NotUsable("parts", -1)
 
 
@@ -40,14 +45,18 @@ def parts_of(book, charging):
     ])
 
 
+def greatest_of(book, places):
+    """The greatest number that the sponsors at these places pay together in a book that fits."""
+    flow = flow_in_turn(book, (), places)
+    paid = paid_parts(book)
+    return sum([paid[n] + flow.units_of(n) for n in places])
+
+
 def greatest_part(book, *sponsors):
     """The greatest number that these sponsors pay together."""
     check_sponsors(book, sponsors)
     check_fits(book)
-    some = places_of(book, sponsors)
-    flow = flow_in_turn(book, (), some)
-    paid = paid_parts(book)
-    return sum([paid[n] + flow.units_of(n) for n in some])
+    return greatest_of(book, places_of(book, sponsors))
 
 
 def least_part(book, *sponsors):

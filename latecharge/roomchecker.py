@@ -1,11 +1,11 @@
 """The checker of room papers."""
 
 from latecharge.barchecker import are_integers, check_limits_apart, check_slots, check_some, first_outside
-from latecharge.bookparts import amount_of, can_pay, left_of, limits_over, sponsors_of
+from latecharge.bookparts import amount_of, left_of, sponsors_of
 from latecharge.chargings import lets_charging
 from latecharge.errors import InvalidPaper, NotUsable
 from latecharge.kinds import is_numbers
-from latecharge.rooms import check_wishes, with_buys
+from latecharge.rooms import check_wishes, free_payers, with_buys
 
 
 def is_most_by_form(thing):
@@ -48,15 +48,6 @@ def lets_most(book, wishes, thing):
     return rest
 
 
-def can_pay_freely(book, wishes, name):
-    """Whether a string is the name of a purse that may pay for a wish with its slot in no area."""
-    for purse in book[0]:
-        for day, kind in wishes:
-            if purse[0] == name and can_pay(purse, day, kind) and limits_over(book, name, day) == ():
-                return True
-    return False
-
-
 def lets_room(book, wishes, thing):
     """The room that a room paper shows; InvalidPaper for any other value."""
     if not isinstance(wishes, tuple):
@@ -70,6 +61,6 @@ def lets_room(book, wishes, thing):
         raise InvalidPaper("shape", -1)
     _, charging, name = thing
     lets_charging(book, charging)
-    if not can_pay_freely(book, wishes, name):
+    if not any([name in free_payers(book, wish) for wish in wishes]):
         raise InvalidPaper("purse", -1)
     return None

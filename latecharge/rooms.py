@@ -14,10 +14,16 @@ def with_buys(book, buys):
     return (purses, limits, rows + tuple([("buy",) + buy for buy in buys]))
 
 
+def free_payers(book, wish):
+    """The names of the purses that may pay for a wish with their slots in no area."""
+    day, kind = wish
+    names = [purse[0] for purse in book[0] if can_pay(purse, day, kind)]
+    return [name for name in names if limits_over(book, name, day) == ()]
+
+
 def is_free(book, wish):
     """Whether a slot in no area may pay for a wish."""
-    day, kind = wish
-    return any([can_pay(purse, day, kind) and limits_over(book, purse[0], day) == () for purse in book[0]])
+    return len(free_payers(book, wish)) > 0
 
 
 def check_wishes(wishes):

@@ -246,6 +246,25 @@ class TestHarmless(Case):
                             if brute.first_harmed(book, brute.paid_with(book, t, shares), wishes) is None]
                 self.same(list(harmless_shares(book, t, *wishes)), expected)
 
+    def test_groups_of_purses(self):
+        # Each of four purses can pay for row 0, and three of them share a cap.
+        purses = (('cash', 'firm', ('a', 'b'), 0, 0), ('gift', 'firm', ('a', 'c'), 0, 0), ('home', 'aunt', ('a',), 0, 0),
+                  ('trip', 'firm', ('a', 'd'), 0, 0))
+        some, none = 0, 0
+        for cap, first, second, third, amount in itertools.product(range(1, 6), (1, 2), (1, 3), (2,), (2, 3, 4)):
+            limits = ((('cash', 'gift', 'trip'), 0, 0, cap), (('cash',), 0, 0, first), (('gift',), 0, 0, second),
+                      (('trip',), 0, 0, third), (('home',), 0, 0, 3))
+            for wishes in ((), ALL[:1], ALL):
+                book = (purses, limits, (('buy', 0, 'a', amount), ('buy', 0, 'c', 1)))
+                if not brute.open_states(book):
+                    continue
+                expected = [shares for shares in shares_of(book, 0)
+                            if brute.first_harmed(book, brute.paid_with(book, 0, shares), wishes) is None]
+                self.same(list(harmless_shares(book, 0, *wishes)), expected)
+                some += len(expected) > 1
+                none += len(expected) == 0
+        self.assertTrue(min(some, none) > 5, (some, none))
+
     def test_great_books(self):
         rows = tuple(('buy', day, 'any', 12) for day in range(10))
         limits = WIDE[1] + ((('c',), 0, 3, 13), (('f',), 0, 0, 5))

@@ -82,6 +82,8 @@ class TestRefused(Case):
         self.changed(0, (None, True, 'free', 'Most', 'most ', ('most',), 0), 'shape')
         self.changed(1, (None, [7], 7, (7, True), (-1,), (None,), ('7',), '7'), 'shape')
         self.changed(2, (None, [], 'abc', 3, list(MOST[2])), 'shape')
+        # A charging of another form comes ahead of too few amounts.
+        self.refuse('shape', -1, ('most', (), [], (0,), (0, 2)))
         self.changed(3, (None, [0], 0, (True,), (0, None), ('0',), '0'), 'shape')
         self.changed(4, (None, [0, 2], 0, (0, True), (0, None), ('0',), '02'), 'shape')
         self.changed(0, (None, True, 'most', 'Free', ''), 'shape', -1, FREE)
