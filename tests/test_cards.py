@@ -28,18 +28,23 @@ EACH = (TOY, ('back', 0, 3), PAY, ('purse', HOME), ('limit', (('meal',), 1, 1, 4
 NO_EVENTS = (
     *ODD, 'buy', ('buy',), ('buy', 0, 'toy'), ('buy', 0, 'toy', 1, 1), ('buy', -1, 'toy', 1), ('buy', True, 'toy', 1),
     ('buy', 0, 'Toy', 1), ('buy', 0, None, 1), ('buy', 0, 'toy', -1), ('buy', 0, 'toy', True), ('buy', 0, 'toy', '1'),
-    ['buy', 0, 'toy', 1], ('paid', 0, 'food', (3, 5, 0)), ('Buy', 0, 'toy', 1), (None, 0, 'toy', 1), (('buy',), 0, 'toy', 1),
+    ['buy', 0, 'toy', 1], ('paid', 0, 'food', (3, 5, 0)), ('Buy', 0, 'toy', 1), (None, 0, 'toy', 1),
+    (('buy',), 0, 'toy', 1),
     ('back',), ('back', 0), ('back', 0, 0), ('back', 0, -1), ('back', 0, True), ('back', True, 1), ('back', -1, 1),
     ('back', '0', 1), ('back', 0, None), ('back', 0, 1, 1), ['back', 0, 1], ('back', (0,), 1), ('back', False, 1),
     ('pay',), ('pay', 0), ('pay', 0, [3, 5, 0]), ('pay', 0, 8), ('pay', 0, (3, 5, False)), ('pay', 0, (9, -1, 0)),
-    ('pay', 0, (3, None)), ('pay', True, (3, 5, 0)), ('pay', -1, (3, 5, 0)), ('pay', None, (3, 5, 0)), ('pay', 0, ((8,),)),
+    ('pay', 0, (3, None)), ('pay', True, (3, 5, 0)), ('pay', -1, (3, 5, 0)), ('pay', None, (3, 5, 0)),
+    ('pay', 0, ((8,),)),
     ('pay', 0, (3, 5, 0), 1), ['pay', 0, (3, 5, 0)], ('pay', 0, '350'),
     ('purse',), ('purse', None), ('purse', HOME[:4]), ('purse', list(HOME)), ('purse', HOME, HOME), ['purse', HOME],
     ('purse', ('Home', *HOME[1:])), ('purse', (*HOME[:2], ('rent', 'food'), 0, 9)), ('purse', (*HOME[:3], 5, 4)),
-    ('purse', (*HOME[:2], (), 0, 9)), ('purse', (*HOME[:3], False, 9)), ('purse', (HOME[0], 7, *HOME[2:])), ('purse',) + HOME,
-    ('limit',), ('limit', None), ('limit', (('meal',), 0, 0)), ('limit', (('meal',), 1, 0, 3)), ('limit', ((), 0, 0, 3)),
+    ('purse', (*HOME[:2], (), 0, 9)), ('purse', (*HOME[:3], False, 9)), ('purse', (HOME[0], 7, *HOME[2:])),
+    ('purse',) + HOME,
+    ('limit',), ('limit', None), ('limit', (('meal',), 0, 0)), ('limit', (('meal',), 1, 0, 3)),
+    ('limit', ((), 0, 0, 3)),
     ('limit', [('meal',), 0, 0, 3]), ('limit', (['meal'], 0, 0, 3)), ('limit', (('trip', 'meal'), 0, 0, 3)),
-    ('limit', (('meal',), 0, 0, True)), ('limit', (('meal',), 0, 0, -1)), ('limit', (('meal',), 0, 0, 3), 0), ('limit', ('meal',), 0, 0, 3),
+    ('limit', (('meal',), 0, 0, True)), ('limit', (('meal',), 0, 0, -1)), ('limit', (('meal',), 0, 0, 3), 0),
+    ('limit', ('meal',), 0, 0, 3),
     ('cap',), ('cap', 0), ('cap', 0, -1), ('cap', -1, 0), ('cap', True, 1), ('cap', 0, True), ('cap', 0, None),
     ('cap', '0', 1), ('cap', 0, 1, 1), ['cap', 0, 1], ('cap', 0, (1,)),
     ('close',), ('close', None), ('close', list(CHARGING)), ('close', (3, 5, 0)), ('close', ([3, 5, 0], [0, 0, 9])),
@@ -86,7 +91,8 @@ class TestExamples(CardCase):
 
     def test_the_card(self):
         card = Card(PURSES, LIMITS)
-        self.same([card.do_all(*ROWS), card.book == BOOK, card.left_now, card.fits_now(3, 'toy')], [2, True, (10, 15, 5), 7])
+        self.same([card.do_all(*ROWS), card.book == BOOK, card.left_now, card.fits_now(3, 'toy')],
+                  [2, True, (10, 15, 5), 7])
         self.refused(InvalidEvent, [('buy', 3, 'toy', 8), 'fit'], card.buy, 3, 'toy', 8)
         self.same([card.buy(3, 'toy', 7), card.parts_now(), card.pay(0, (3, 5, 0)), card.left_now],
                   [2, (('aunt', 10, 10), ('firm', 14, 14)), 16, (7, 10, 0)])
@@ -99,7 +105,8 @@ class TestMaking(CardCase):
     def test_a_new_card(self):
         for limits in (LIMITS, ()):
             card = Card(PURSES, limits)
-            self.same([card.book, card.open_now, card.left_now], [(PURSES, limits, ()), (), tuple(limit[3] for limit in limits)])
+            self.same([card.book, card.open_now, card.left_now],
+                      [(PURSES, limits, ()), (), tuple(limit[3] for limit in limits)])
             self.same([len(card), card.counts(), card.table(), str(card), card.log()],
                       [0, (0, 0), [], '-', (('card', PURSES, limits),)])
         self.same(Card(limits=LIMITS, purses=PURSES).book, (PURSES, LIMITS, ()))
@@ -207,8 +214,8 @@ class TestEvents(CardCase):
                 else:
                     self.impossible(card, event, expected)
             self.same(card.table(), table_by_words(card.book))
-        self.assertEqual(set(reasons), {None, 'many', 'row', 'paid', 'amount', 'shares', 'name', 'limit', 'same', 'open',
-                                        'charging', 'book', 'fit'})
+        self.assertEqual(set(reasons), {None, 'many', 'row', 'paid', 'amount', 'shares', 'name', 'limit', 'same',
+                                        'open', 'charging', 'book', 'fit'})
 
 
 def table_by_words(book):
@@ -228,7 +235,8 @@ class TestReasons(CardCase):
         for value in NO_EVENTS:
             self.impossible(card, value, 'shape')
         self.impossible(card, Book(PURSES), 'shape')
-        for call, parts, event in ((card.buy, (True, 'toy', 1), ('buy', True, 'toy', 1)), (card.back, (0, 0), ('back', 0, 0)),
+        for call, parts, event in ((card.buy, (True, 'toy', 1), ('buy', True, 'toy', 1)),
+                                   (card.back, (0, 0), ('back', 0, 0)),
                                    (card.pay, (0, [8]), ('pay', 0, [8])), (card.add_purse, (None,), ('purse', None)),
                                    (card.add_limit, ([],), ('limit', [])), (card.set_cap, (0, True), ('cap', 0, True)),
                                    (card.close, ((1,),), ('close', (1,)))):
@@ -243,14 +251,16 @@ class TestReasons(CardCase):
                 with self.assertRaises(InvalidEvent) as caught:
                     call(*parts)
                 self.same([caught.exception.event, caught.exception.reason], [(word, *parts), 'shape'])
-            self.refused(InvalidEvent, [('close', value), 'charging' if value in ((), ((), ())) else 'shape'], card.close, value)
+            self.refused(InvalidEvent, [('close', value), 'charging' if value in ((), ((), ())) else 'shape'],
+                         card.close, value)
 
     def test_full(self):
         card = Card(PURSES, LIMITS)
         card.do_all(*ROWS, *[('cap', 0, 10 + n % 2) for n in range(1, 38)])
         self.same([len(card), card.barred(TOY), card.go(('cap', 0, 11 if card.book[1][0][3] == 10 else 10)), len(card)],
                   [39, None, 17, 40])
-        for event in (*EACH, ('back', 9, 1), ('pay', 9, ()), ('cap', 9, 1), ('purse', PURSES[0]), ('buy', 0, 'food', SIXTY),
+        for event in (*EACH, ('back', 9, 1), ('pay', 9, ()), ('cap', 9, 1), ('purse', PURSES[0]),
+                      ('buy', 0, 'food', SIXTY),
                       ('close', ()), ('limit', (('none',), 0, 0, 0))):
             self.impossible(card, event, 'full')
         self.impossible(card, ('back', 0, 0), 'shape')
@@ -293,7 +303,8 @@ class TestReasons(CardCase):
             self.impossible(card, event, 'paid')
         for event in (('back', 1, 10), ('back', 1, SIXTY)):
             self.impossible(card, event, 'amount')
-        for event in (('pay', 1, (0, 0, 8)), ('pay', 1, ()), ('pay', 1, (8, 2, 0)), ('pay', 1, (8,)), ('pay', 1, (SIXTY, 0, 0))):
+        for event in (('pay', 1, (0, 0, 8)), ('pay', 1, ()), ('pay', 1, (8, 2, 0)), ('pay', 1, (8,)),
+                      ('pay', 1, (SIXTY, 0, 0))):
             self.impossible(card, event, 'shares')
         self.same([card.barred(('back', 1, 9)), card.barred(('pay', 1, (0, 0, 9)))], [None, None])
 
@@ -331,12 +342,14 @@ class TestReasons(CardCase):
                       (('meal',), 9, 12, 9), (('meal', 'trip'), 9, 12, 0)):
             self.impossible(card, ('limit', limit), 'book')
         card.pay(0, (3, 5, 0))
-        for event in (('cap', 0, 2), ('cap', 2, 4), ('cap', 1, 4), ('limit', (('gift',), 0, 0, 2)), ('limit', (('meal',), 0, 1, 4))):
+        for event in (('cap', 0, 2), ('cap', 2, 4), ('cap', 1, 4), ('limit', (('gift',), 0, 0, 2)),
+                      ('limit', (('meal',), 0, 1, 4))):
             self.impossible(card, event, 'book')
 
     def test_no_fit(self):
         card = sample()
-        for event in (('buy', 3, 'toy', 8), ('buy', 5, 'ship', 1), ('buy', 0, 'toy', SIXTY), ('buy', 10, 'toy', 1), ('cap', 1, 8),
+        for event in (('buy', 3, 'toy', 8), ('buy', 5, 'ship', 1), ('buy', 0, 'toy', SIXTY), ('buy', 10, 'toy', 1),
+                      ('cap', 1, 8),
                       ('cap', 0, 2), ('limit', (('trip',), 1, 1, 8)), ('limit', (('gift',), 0, 0, 2))):
             self.impossible(card, event, 'fit')
         card.buy(3, 'toy', 7)
@@ -394,7 +407,8 @@ class TestLooking(CardCase):
             self.assertFalse(sample() == other)
             self.assertTrue(sample() != other)
         # Without events, cards differ by their purses and limits alone.
-        empty = (Card(PURSES, LIMITS), Card(PURSES, LIMITS[:2]), Card(PURSES, LIMITS[::-1]), Card(PURSES[:1], ()), Card(PURSES, ()))
+        empty = (Card(PURSES, LIMITS), Card(PURSES, LIMITS[:2]), Card(PURSES, LIMITS[::-1]), Card(PURSES[:1], ()),
+                 Card(PURSES, ()))
         for one, other in itertools.combinations(empty, 2):
             self.assertFalse(one == other)
         # The same book by other events is another card, and so is another order.
@@ -432,7 +446,8 @@ class TestLooking(CardCase):
 
     def test_table(self):
         card = sample(PAY, ('buy', 10, 'lettersx', 0))
-        self.same(card.table(), [' 0 paid  0 food       8 3,5,0', ' 1 open  1 train      9 -', ' 2 open 10 lettersx   0 -'])
+        self.same(card.table(), [' 0 paid  0 food       8 3,5,0', ' 1 open  1 train      9 -',
+                                 ' 2 open 10 lettersx   0 -'])
         free = Card(PURSES, ())
         free.do_all(('buy', 3, 'toy', 1234), ('pay', 0, (1234, 0, 0)), ('buy', SIXTY, 'b', 0))
         self.same(free.table(), [' 0 paid  3 toy      1234 1234,0,0', f' 1 open {SIXTY} b          0 -'])
@@ -454,12 +469,14 @@ class TestManyEvents(CardCase):
                   [BOOK, (PURSES, LIMITS, ROWS + (TOY,)), (PURSES, LIMITS, (('buy', 0, 'food', 5), ROWS[1], TOY))])
         self.refused(InvalidEvent, [('buy', 3, 'toy', 1), 'fit'], card.tried, TOY, ('buy', 3, 'toy', 1), None)
         self.refused(InvalidEvent, [None, 'shape'], card.tried, TOY, None, ('buy', 3, 'toy', 1))
-        self.same(card.tried(TOY, ('back', 2, 1), ('buy', 3, 'toy', 1))[2][2:], (('buy', 3, 'toy', 6), ('buy', 3, 'toy', 1)))
+        self.same(card.tried(TOY, ('back', 2, 1), ('buy', 3, 'toy', 1))[2][2:],
+                  (('buy', 3, 'toy', 6), ('buy', 3, 'toy', 1)))
         self.same([state(card), card.counts()], [before, (1, 1)])
 
     def test_do_all(self):
         card = sample()
-        self.same([card.do_all(), card.counts(), card.do_all(TOY, PAY), card.counts(), len(card)], [0, (2, 2), 2, (3, 3), 4])
+        self.same([card.do_all(), card.counts(), card.do_all(TOY, PAY), card.counts(), len(card)],
+                  [0, (2, 2), 2, (3, 3), 4])
         self.same(card.do_all(('back', 1, 1), keep=True), 1)
 
     def test_do_all_with_an_error(self):
@@ -505,7 +522,8 @@ class TestManyEvents(CardCase):
 
     def test_counts(self):
         card = Card(PURSES, LIMITS)
-        calls = ((card.buy, (0, 'food', 8)), (card.buy, (1, 'train', 9)), (card.back, (0, 1)), (card.pay, (0, (2, 5, 0))),
+        calls = ((card.buy, (0, 'food', 8)), (card.buy, (1, 'train', 9)), (card.back, (0, 1)),
+                 (card.pay, (0, (2, 5, 0))),
                  (card.add_purse, (HOME,)), (card.add_limit, ((('home',), 0, 9, 50),)), (card.set_cap, (0, 11)),
                  (card.close, (((0, 0, 0, 9),),)), (card.go, (TOY,)), (card, (('back', 2, 1),)), (card.undo, ()),
                  (card.do_all, (('back', 2, 2), ('back', 2, 1))))
@@ -513,8 +531,10 @@ class TestManyEvents(CardCase):
             self.same(card.counts(), (many, many))
             call(*parts)
         many = len(calls)
-        for call, parts in ((card.buy, (0, 'food', -8)), (card.back, (0, 1)), (card.pay, (0, ())), (card.add_purse, (HOME,)),
-                            (card.add_limit, (None,)), (card.set_cap, (0, 11)), (card.close, (None,)), (card.go, (None,)),
+        for call, parts in ((card.buy, (0, 'food', -8)), (card.back, (0, 1)), (card.pay, (0, ())),
+                            (card.add_purse, (HOME,)),
+                            (card.add_limit, (None,)), (card.set_cap, (0, 11)), (card.close, (None,)),
+                            (card.go, (None,)),
                             (card, (None,)), (card.do_all, (None,))):
             with self.assertRaises(InvalidEvent):
                 call(*parts)
@@ -524,7 +544,8 @@ class TestManyEvents(CardCase):
 
     def test_looking_is_not_counted(self):
         card = sample()
-        looks = (card.table(), card.log(), card.tried(TOY), card.barred(TOY), card.bar_for(TOY), card.fits_now(3, 'toy'),
+        looks = (card.table(), card.log(), card.tried(TOY), card.barred(TOY), card.bar_for(TOY),
+                 card.fits_now(3, 'toy'),
                  card.room_now(), card.parts_now(), card.by_order(('firm', 'aunt')), card.even(), card.any_charging(),
                  card.harm_now(0, (8, 0, 0)), card.book, card.open_now, card.left_now, len(card), str(card), card[0],
                  'gift' in card, card == card, card.counts())
@@ -546,7 +567,8 @@ class TestAdvice(CardCase):
             self.same(card.fits_now(1, 'a'), brute.room(book, [(1, 'a')]))
             self.same(card.room_now((1, 'a'), (0, 'b')), room(book, (1, 'a'), (0, 'b')))
             names = brute.sponsors(book)
-            self.same(card.parts_now(), tuple((name, least_part(book, name), greatest_part(book, name)) for name in names))
+            ends = [(name, least_part(book, name), greatest_part(book, name)) for name in names]
+            self.same(card.parts_now(), tuple(ends))
             for order in itertools.islice(itertools.permutations(names), 3):
                 self.same(card.by_order(order), parts_by_order(book, order))
             self.same(card.even(), most_even(book))
@@ -558,7 +580,8 @@ class TestAdvice(CardCase):
 
     def test_examples(self):
         card = sample()
-        self.same([card.room_now((3, 'toy'), (2, 'train')), card.by_order(('firm', 'aunt')), card.even(), card.room_now()],
+        self.same([card.room_now((3, 'toy'), (2, 'train')), card.by_order(('firm', 'aunt')), card.even(),
+                   card.room_now()],
                   [8, (3, 14), ((8, 9),), 0])
         self.same([card.parts_now(), card.harm_now(0, (8, 0, 0), (0, 'toy')), card.harm_now(0, (3, 5, 0), (0, 'toy'))],
                   [(('aunt', 3, 8), ('firm', 9, 14)), ((0, 'toy'),), None])
@@ -619,9 +642,13 @@ class TestConsequences(CardCase):
             card.go(event)
             after = brute.good_chargings(card.book)
             if event[0] == 'back':
-                self.assertTrue(all(any(all(part <= most for part, most in zip(less[0], more[0])) for less in after) for more in before))
+                # Of each good charging one of lesser shares is left.
+                for more in before:
+                    pairs = [list(zip(less[0], more[0])) for less in after]
+                    self.assertTrue(any(all(part <= most for part, most in shares) for shares in pairs))
             elif event[0] == 'purse':
-                self.assertTrue({tuple((gift, 0, meal, trip) for gift, meal, trip in one) for one in before} <= set(after))
+                longer = {tuple((gift, 0, meal, trip) for gift, meal, trip in charging) for charging in before}
+                self.assertTrue(longer <= set(after))
             else:
                 self.assertTrue(set(before) <= set(after))
 

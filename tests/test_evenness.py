@@ -33,7 +33,8 @@ class TestMostEven(Case):
         self.same(most_even(BOOK), ((8, 9),))
 
     def test_books(self):
-        self.same([most_even(HALF), most_even(PLAIN), most_even(((PURSES[0],), (), ()))], [((3, 14),), ((0, 0),), ((0,),)])
+        self.same([most_even(HALF), most_even(PLAIN), most_even(((PURSES[0],), (), ()))],
+                  [((3, 14),), ((0, 0),), ((0,),)])
         self.same(most_even((PURSES, LIMITS, (('buy', 0, 'food', 7),))), ((3, 4), (4, 3)))
         self.same(most_even((PURSES, LIMITS, (('buy', 0, 'food', 8),))), ((4, 4),))
         self.same(most_even((PURSES, LIMITS, (('buy', 1, 'food', 17),))), ((8, 9), (9, 8)))
@@ -47,7 +48,8 @@ class TestMostEven(Case):
 
     def test_great_books(self):
         self.same(most_even(WIDE), ((100, 100, 100),))
-        uneven = (WIDE[0], WIDE[1], tuple(('buy', day, 'any', 29) for day in range(9)) + (('paid', 0, 'any', (0, 20, 0, 0, 0, 0)),))
+        rows = tuple(('buy', day, 'any', 29) for day in range(9))
+        uneven = (WIDE[0], WIDE[1], rows + (('paid', 0, 'any', (0, 20, 0, 0, 0, 0)),))
         self.same(most_even(uneven), ((93, 94, 94), (94, 93, 94), (94, 94, 93)))
 
     def test_by_trying(self):
@@ -58,7 +60,8 @@ class TestMostEven(Case):
                 self.same(most_even(book), expected)
                 several += len(expected) > 1
                 # [40]: no possible tuple has a lesser sum of squares.
-                self.same(sum(part ** 2 for part in expected[0]), min(sum(part ** 2 for part in parts) for parts in found))
+                self.same(sum(part ** 2 for part in expected[0]),
+                          min(sum(part ** 2 for part in parts) for parts in found))
         self.assertGreater(several, 20)
 
     def test_steps_between_most_even_ones(self):

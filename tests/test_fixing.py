@@ -9,8 +9,8 @@ from latecharge.fixing import fixed, fixed_all, harm, harm_of_all, harmless_shar
 from latecharge.parts import parts_of
 from tests import brute
 from tests.samples import (
-    ALL, BOOK, HALF, LIMITS, MORE, NO_SHARES, NO_WISHES, ODD, PLAIN, PURSES, ROWS, SIXTY, WIDE, Case, joint, kept, splits,
-    subsets)
+    ALL, BOOK, HALF, LIMITS, MORE, NO_SHARES, NO_WISHES, ODD, PLAIN, PURSES, ROWS, SIXTY, WIDE, Case, joint, kept,
+    splits, subsets)
 
 FITTING = [book for book in brute.BOOKS if brute.open_states(book)]
 WISHES = tuple(itertools.product((0, 1, 2), ('a', 'b', 'c')))
@@ -100,7 +100,8 @@ class TestFixedAll(Case):
                 self.same(parts_of(after, ()), parts_of(book, charging))
 
     def test_wrong_chargings(self):
-        for value, word, at in ((None, 'shape', -1), ([], 'shape', -1), ((), 'many', -1), (((3, 5), (0, 0, 9)), 'purses', 0),
+        for value, word, at in ((None, 'shape', -1), ([], 'shape', -1), ((), 'many', -1),
+                                (((3, 5), (0, 0, 9)), 'purses', 0),
                                 (((3, 5, 0), (9, 0, 0)), 'payer', (1, 0)), (((3, 5, 0), (0, 0, 8)), 'amount', 1),
                                 (((2, 6, 0), (0, 0, 9)), 'limit', 2), (((3, 5, False), (0, 0, 9)), 'shape', -1)):
             self.refused(InvalidPaper, [word, at], fixed_all, BOOK, value)
@@ -248,7 +249,8 @@ class TestHarmless(Case):
 
     def test_groups_of_purses(self):
         # Each of four purses can pay for row 0, and three of them share a cap.
-        purses = (('cash', 'firm', ('a', 'b'), 0, 0), ('gift', 'firm', ('a', 'c'), 0, 0), ('home', 'aunt', ('a',), 0, 0),
+        purses = (('cash', 'firm', ('a', 'b'), 0, 0), ('gift', 'firm', ('a', 'c'), 0, 0),
+                  ('home', 'aunt', ('a',), 0, 0),
                   ('trip', 'firm', ('a', 'd'), 0, 0))
         some, none = 0, 0
         for cap, first, second, third, amount in itertools.product(range(1, 6), (1, 2), (1, 3), (2,), (2, 3, 4)):

@@ -49,7 +49,8 @@ class TestPapers(Case):
 
     def test_small_books(self):
         many = 0
-        for book in (*brute.BOOKS, *[joint(*caps) for caps in itertools.product((1, 2, 3), [(1, 1, 2), (0, 2, 1)], (1, 2))]):
+        kinds = itertools.product((1, 2, 3), [(1, 1, 2), (0, 2, 1)], (1, 2))
+        for book in (*brute.BOOKS, *[joint(*caps) for caps in kinds]):
             if not brute.open_states(book):
                 continue
             for t in brute.open_rows(book)[:2]:
@@ -120,13 +121,15 @@ class TestChecker(Case):
 
     def test_chargings(self):
         good = PAPER[2]
-        self.changed(2, (*ODD, list(good), good[:2], good + ((0, 0, 0),), good[:2] + ((2, 0, 0),), good[:2] + ((3, 0, False),),
+        self.changed(2, (*ODD, list(good), good[:2], good + ((0, 0, 0),), good[:2] + ((2, 0, 0),),
+                         good[:2] + ((3, 0, False),),
                          ((8, 0, 0),) + good[1:], good[:2] + ((0, 3, 0),), ((2, 6, 0),) + good[1:]), 'charging')
         self.changed(1, ((2,), (8,), (SIXTY,)), 'charging')
         self.changed(0, (((2, 'ship'),), ((3, 'train'),)), 'charging')
 
     def test_bars(self):
-        self.changed(3, (*ODD, ((2,),), [(2,), (0,)], ((2,), (1,)), ((1,), (0,)), ((), (0,)), ((2,), ()), ((0, 2), (0,)),
+        self.changed(3, (*ODD, ((2,),), [(2,), (0,)], ((2,), (1,)), ((1,), (0,)), ((), (0,)), ((2,), ()),
+                         ((0, 2), (0,)),
                          ((2,), (0, 2)), ((True,), (0,)), ((3,), (0,)), ((2, 2), (0,))), 'bar')
         # With two toys the book still fits behind.
         two = (TOY, (2,), ((3, 5, 0), (0, 0, 9), (2, 0, 0)), ((2,), (0,)))

@@ -42,7 +42,8 @@ class TestHelpingLimits(Case):
         helped = 0
         for book in (*brute.BOOKS, *[brute.random_book(seed, most=5) for seed in range(200, 500)]):
             lack = lack_of(book)
-            expected = tuple(k for k, limit in enumerate(book[1]) if lack_of(with_cap(book, k, limit[3] + 1)) == lack - 1)
+            greater = [with_cap(book, k, limit[3] + 1) for k, limit in enumerate(book[1])]
+            expected = tuple(k for k, other in enumerate(greater) if lack_of(other) == lack - 1)
             self.same(helping_limits(book), expected)
             helped += expected != ()
             # [49]: just those that are in each bar with the greatest lack.

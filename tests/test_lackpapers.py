@@ -6,9 +6,7 @@ from latecharge.bookchanges import with_amount
 from latecharge.chargings import is_good
 from latecharge.lackpapers import lack_paper
 from tests import brute
-from tests.samples import BOOK, HALF, LIMITS, MORE, PLAIN, PURSES, ROWS, SIXTY, WIDE, Case, kept
-
-HUGE = (PURSES, LIMITS, ROWS + (('buy', 3, 'toy', 10),))
+from tests.samples import BOOK, HALF, HUGE, LIMITS, MORE, PLAIN, PURSES, ROWS, SIXTY, WIDE, Case, kept
 
 
 class TestLackPapers(Case):

@@ -8,9 +8,8 @@ from latecharge.raisechecker import lets_raise
 from latecharge.raisepapers import raise_paper
 from latecharge.raising import fewest_raise, least_raises, raised
 from tests import brute
-from tests.samples import BOOK, HALF, LIMITS, MORE, ODD, PLAIN, PURSES, ROWS, SIXTY, WIDE, Case, kept, subsets
+from tests.samples import BOOK, HALF, HUGE, LIMITS, MORE, ODD, PLAIN, PURSES, ROWS, SIXTY, WIDE, Case, kept, subsets
 
-HUGE = (PURSES, LIMITS, ROWS + (('buy', 3, 'toy', 10),))
 UNITS = (3, 0, 0)
 CHARGING = ((3, 5, 0), (0, 0, 9), (10, 0, 0))
 LEVELS = (1, 0, 1)

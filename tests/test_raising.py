@@ -8,9 +8,8 @@ from latecharge.errors import NotUsable
 from latecharge.fitting import fits
 from latecharge.raising import fewest_raise, least_raises, raised
 from tests import brute
-from tests.samples import BOOK, HALF, LIMITS, MORE, ODD, PLAIN, PURSES, ROWS, SIXTY, WIDE, Case, kept, splits
+from tests.samples import BOOK, HALF, HUGE, LIMITS, MORE, ODD, PLAIN, PURSES, ROWS, SIXTY, WIDE, Case, kept, splits
 
-HUGE = (PURSES, LIMITS, ROWS + (('buy', 3, 'toy', 10),))
 FIVE = ((('a', 'b'), 0, 9, 14), (('a',), 0, 4, 4), (('a', 'b'), 0, 4, 8), (('c', 'd'), 0, 9, 10), (('e', 'f'), 0, 9, 20))
 
 

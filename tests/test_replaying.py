@@ -67,13 +67,16 @@ class TestIsLog(Case):
         self.same(is_log((START,) + (('buy', 0, 'ship', 9), ('back', 9, 9), ('close', ()), ('cap', 0, 10)) * 11), True)
 
     def test_other_values(self):
-        for value in (*ODD, 3, 'card', START, [START], [START, *ROWS], ((),), (START[:2],), (START + ((),),), (list(START),),
-                      (None, *ROWS), (('Card', *START[1:]),), ((True, *START[1:]),), (ROWS[0], START), (*ROWS,), sample(), BOOK,
+        for value in (*ODD, 3, 'card', START, [START], [START, *ROWS], ((),), (START[:2],), (START + ((),),),
+                      (list(START),),
+                      (None, *ROWS), (('Card', *START[1:]),), ((True, *START[1:]),), (ROWS[0], START), (*ROWS,),
+                      sample(), BOOK,
                       (sample(),), (Book(PURSES),), ((Book(PURSES), PURSES, LIMITS),), (START, START)):
             self.same(is_log(value), False)
 
     def test_no_card_can_be_made(self):
-        for purses, limits in (((), ()), (PURSES[::-1], ()), (PURSES[:1], LIMITS), (PURSES, LIMITS[:1] * 2), (None, ()), (PURSES, None),
+        for purses, limits in (((), ()), (PURSES[::-1], ()), (PURSES[:1], LIMITS), (PURSES, LIMITS[:1] * 2),
+                               (None, ()), (PURSES, None),
                                (list(PURSES), LIMITS), (PURSES, list(LIMITS)), (SEVEN, ()), (True, False), (1, 2),
                                (PURSES, tuple((('trip',), day, day, 3) for day in range(9)))):
             self.same([is_log((('card', purses, limits),)), is_log((('card', purses, limits), TOY))], [False, False])
@@ -86,7 +89,8 @@ class TestIsLog(Case):
 class TestReplayed(Case):
 
     def test_cards(self):
-        for card in (Card(PURSES, LIMITS), sample(), *[sample(event) for event in EACH], *[random_card(seed, 15) for seed in range(25)]):
+        for card in (Card(PURSES, LIMITS), sample(), *[sample(event) for event in EACH],
+                     *[random_card(seed, 15) for seed in range(25)]):
             again = replayed(card.log())
             self.assertTrue(again == card and card == again)
             self.same([state(again), again.counts()], [state(card), (0, 0)])
@@ -101,7 +105,8 @@ class TestReplayed(Case):
         self.same(replayed(log=card.log()).undo(), TOY)
 
     def test_the_first_error(self):
-        for event, reason in ((('back', 9, 9), 'row'), (('buy', 3, 'toy', 8), 'fit'), (('close', ()), 'charging'), (('cap', 0, 10), 'same')):
+        for event, reason in ((('back', 9, 9), 'row'), (('buy', 3, 'toy', 8), 'fit'), (('close', ()), 'charging'),
+                              (('cap', 0, 10), 'same')):
             self.refused(InvalidEvent, [event, reason], replayed, (START, *ROWS, event, ('back', 7, 7)))
         caps = tuple(('cap', 0, 11 - n % 2) for n in range(41))
         self.refused(InvalidEvent, [caps[40], 'full'], replayed, (START, *caps))

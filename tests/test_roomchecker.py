@@ -77,7 +77,8 @@ class TestRefused(Case):
                 self.refused(NotUsable, ['wish', 1], lets_room, book, ((3, 'toy'), value, ()), MOST)
 
     def test_shape(self):
-        for value in (*ODD, list(MOST), list(FREE), MOST[:4], MOST + ((),), FREE[:2], FREE + ((),), 'most', ('most',), ('free',)):
+        for value in (*ODD, list(MOST), list(FREE), MOST[:4], MOST + ((),), FREE[:2], FREE + ((),), 'most', ('most',),
+                      ('free',)):
             self.refuse('shape', -1, value)
         self.changed(0, (None, True, 'free', 'Most', 'most ', ('most',), 0), 'shape')
         self.changed(1, (None, [7], 7, (7, True), (-1,), (None,), ('7',), '7'), 'shape')
@@ -97,10 +98,12 @@ class TestRefused(Case):
 
     def test_chargings(self):
         good = MOST[2]
-        for value, word, at in ((good[:2], 'many', -1), (good + ((0, 0, 0),), 'many', -1), (('a', 'b', 'c'), 'shape', -1),
+        for value, word, at in ((good[:2], 'many', -1), (good + ((0, 0, 0),), 'many', -1),
+                                (('a', 'b', 'c'), 'shape', -1),
                                 ((None,), 'shape', -1), (good[:2] + ((7, 0, False),), 'shape', -1),
                                 (good[:2] + ((7, 0),), 'purses', 2), (good[:2] + ((0, 7, 0),), 'payer', (2, 1)),
-                                (good[:2] + ((6, 0, 0),), 'amount', 2), (good[:1] + ((0, 0, 8),) + good[2:], 'amount', 1),
+                                (good[:2] + ((6, 0, 0),), 'amount', 2),
+                                (good[:1] + ((0, 0, 8),) + good[2:], 'amount', 1),
                                 (((4, 4, 0),) + good[1:], 'limit', 0), (((2, 6, 0),) + good[1:], 'limit', 2)):
             self.changed(2, (value,), word, at)
         self.changed(1, ((8,), (6,), (SIXTY,)), 'amount', 2)
